@@ -1,0 +1,1 @@
+"""Daycubes: cubes with figures on their faces that show numbers."""

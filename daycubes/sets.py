@@ -1,0 +1,109 @@
+"""Sets of cubes, what they are made of, and the numbers that they may show."""
+
+from daycubes.errors import BadCubes, BadFigures, BadTurns
+
+MOST_CUBES = 6
+MOST_SIGNS = 6
+SIGNS = "0123456789"
+
+
+def is_figure(value):
+    """Tell of any value whether it is a figure."""
+    # Python takes True and False for integers, the document does not.
+    return isinstance(value, int) and not isinstance(value, bool) and 0 <= value <= 9
+
+
+def ascends(values):
+    """Tell whether a tuple of figures, or of pairs of them, is ascending, none of its members twice."""
+    return values == tuple(sorted(set(values)))
+
+
+def is_cube(value):
+    """Tell of any value whether it is a cube."""
+    if not isinstance(value, tuple) or len(value) == 0:
+        return False
+    return all([is_figure(face) for face in value]) and ascends(value)
+
+
+def is_turns(value):
+    """Tell of any value whether it is turns."""
+    if not isinstance(value, tuple):
+        return False
+    # A pair of figures, the less one ahead, has just the form of a cube with two faces.
+    if not all([is_cube(pair) and len(pair) == 2 for pair in value]):
+        return False
+    figures = [figure for pair in value for figure in pair]
+    return ascends(value) and len(set(figures)) == len(figures)
+
+
+def is_number(value):
+    """Tell of any value whether it is a number."""
+    if not isinstance(value, str) or not 1 <= len(value) <= MOST_SIGNS:
+        return False
+    # Not isdigit, which is True for figures of other scripts, too.
+    return all([sign in SIGNS for sign in value])
+
+
+def check_cubes(value):
+    """Raise BadCubes unless any value is a tuple of 1 to 6 cubes."""
+    if not isinstance(value, tuple) or not 1 <= len(value) <= MOST_CUBES:
+        raise BadCubes(None)
+    for index, cube in enumerate(value):
+        if not is_cube(cube):
+            raise BadCubes(index)
+
+
+def check_turns(value):
+    """Raise BadTurns unless any value is turns."""
+    if not is_turns(value):
+        raise BadTurns()
+
+
+def check_number(value):
+    """Raise BadFigures unless any value is a number."""
+    if not is_number(value):
+        raise BadFigures()
+
+
+def faces_for(figure, turns):
+    """The ascending tuple of the figures that show a figure: itself, and the one that can stand for it."""
+    for pair in turns:
+        if figure in pair:
+            return pair
+    return (figure,)
+
+
+def has(cube, figure, turns):
+    """Tell whether a cube has a figure, on a face as it is or turned."""
+    return any([face in cube for face in faces_for(figure, turns)])
+
+
+class Set:
+    """A set of 1 to 6 cubes, and the turns that hold for all of them; nothing in it changes."""
+
+    def __init__(self, cubes, turns=()):
+        check_cubes(cubes)
+        check_turns(turns)
+        self._cubes = cubes
+        self._turns = turns
+
+    @property
+    def cubes(self):
+        """The tuple of the cubes, each the ascending tuple of the figures on its faces."""
+        return self._cubes
+
+    @property
+    def turns(self):
+        """The ascending tuple of the pairs of figures that can stand for one another."""
+        return self._turns
+
+    def __len__(self):
+        return len(self._cubes)
+
+    def __eq__(self, other):
+        return isinstance(other, Set) and self._cubes == other._cubes and self._turns == other._turns
+
+
+def cubes_with(group, figure):
+    """The ascending tuple of the cubes of a set, told by their indexes, that have a figure."""
+    return tuple([index for index, cube in enumerate(group.cubes) if has(cube, figure, group.turns)])

@@ -1,0 +1,54 @@
+"""Whether a set shows a number, in which ways, and where cubes are lacking."""
+
+from itertools import combinations
+
+from daycubes.sets import check_number, cubes_with
+
+
+def cubes_by_place(group, number):
+    """For each place of a number the ascending tuple of the cubes that have the figure there."""
+    return [cubes_with(group, int(sign)) for sign in number]
+
+
+def all_ways(group, number):
+    """The ascending list of all ways in which a set shows a number."""
+    found = [()]
+    for cubes in cubes_by_place(group, number):
+        found = [way + (cube,) for way in found for cube in cubes if cube not in way]
+    return found
+
+
+def together(cubes, places):
+    """The ascending tuple of the cubes that stand at one of these places, or at several."""
+    return tuple(sorted({cube for place in places for cube in cubes[place]}))
+
+
+def shows(group, number):
+    """Tell whether a set shows a number."""
+    return how(group, number) is not None
+
+
+def how(group, number):
+    """The least way in which a set shows a number, None if it does not."""
+    check_number(number)
+    found = all_ways(group, number)
+    return found[0] if found else None
+
+
+def ways(group, number):
+    """In how many ways a set shows a number."""
+    check_number(number)
+    return len(all_ways(group, number))
+
+
+def lacking(group, number):
+    """The fewest places of a number with too few cubes, and these cubes; None if the set shows it."""
+    check_number(number)
+    cubes = cubes_by_place(group, number)
+    # Hall's theorem: each set of places has as many cubes as places just if the number is shown.
+    for many in range(1, len(number) + 1):
+        for places in combinations(range(len(number)), many):
+            few = together(cubes, places)
+            if len(few) < many:
+                return (places, few)
+    return None
