@@ -45,7 +45,7 @@ def lacking(group, number):
     """The fewest places of a number with too few cubes, and these cubes; None if the set shows it."""
     check_number(number)
     cubes = cubes_by_place(group, number)
-    # Hall's theorem: each set of places has as many cubes as places just if the number is shown.
+    # By Hall's theorem a number is not shown just if some of its places have together fewer cubes than places.
     for many in range(1, len(number) + 1):
         for places in combinations(range(len(number)), many):
             few = together(cubes, places)
