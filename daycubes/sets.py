@@ -1,16 +1,22 @@
 """Sets of cubes, what they are made of, and the numbers that they may show."""
 
-from daycubes.errors import BadCubes, BadFigures, BadTurns
+from daycubes.errors import BadCubes, BadFigures, BadNeeded, BadTurns
 
 MOST_CUBES = 6
 MOST_SIGNS = 6
+MOST_NEEDED = 60
 SIGNS = "0123456789"
+
+
+def is_within(value, low, high):
+    """Tell of any value whether it is an integer from low to high."""
+    # Python takes True and False for integers, the document does not.
+    return isinstance(value, int) and not isinstance(value, bool) and low <= value <= high
 
 
 def is_figure(value):
     """Tell of any value whether it is a figure."""
-    # Python takes True and False for integers, the document does not.
-    return isinstance(value, int) and not isinstance(value, bool) and 0 <= value <= 9
+    return is_within(value, 0, 9)
 
 
 def ascends(values):
@@ -65,6 +71,15 @@ def check_number(value):
         raise BadFigures()
 
 
+def check_needed(value):
+    """Raise BadNeeded unless any value is a tuple of 1 to 60 numbers."""
+    if not isinstance(value, tuple) or not 1 <= len(value) <= MOST_NEEDED:
+        raise BadNeeded(None)
+    for index, number in enumerate(value):
+        if not is_number(number):
+            raise BadNeeded(index)
+
+
 def faces_for(figure, turns):
     """The ascending tuple of the figures that show a figure: itself, and the one that can stand for it."""
     for pair in turns:
@@ -73,9 +88,19 @@ def faces_for(figure, turns):
     return (figure,)
 
 
+def least_face(figure, turns):
+    """The figure itself, or the one that can stand for it, whichever is less."""
+    return faces_for(figure, turns)[0]
+
+
 def has(cube, figure, turns):
     """Tell whether a cube has a figure, on a face as it is or turned."""
     return any([face in cube for face in faces_for(figure, turns)])
+
+
+def cubes_with(cubes, figure, turns):
+    """The ascending tuple of those of these cubes, told by their indexes, that have a figure."""
+    return tuple([index for index, cube in enumerate(cubes) if has(cube, figure, turns)])
 
 
 class Set:
@@ -102,8 +127,3 @@ class Set:
 
     def __eq__(self, other):
         return isinstance(other, Set) and self._cubes == other._cubes and self._turns == other._turns
-
-
-def cubes_with(group, figure):
-    """The ascending tuple of the cubes of a set, told by their indexes, that have a figure."""
-    return tuple([index for index, cube in enumerate(group.cubes) if has(cube, figure, group.turns)])

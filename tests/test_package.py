@@ -22,6 +22,19 @@ INTERFACE = {
         "shows": ["group", "number"], "how": ["group", "number"], "ways": ["group", "number"],
         "lacking": ["group", "number"],
     },
+    "counting": {
+        "all_shown": ["group", "width"], "count_shown": ["group", "width"],
+        "first_missing": ["group", "low", "high", "width"], "shown_numbers": ["group", "low", "high", "width"],
+    },
+    "choosing": {
+        "first_unshown": ["group", "needed"], "count_sets": ["needed", "cubes", "faces", "turns"],
+        "list_sets": ["needed", "cubes", "faces", "turns"], "fewest_faces": ["needed", "cubes", "faces", "turns"],
+        "fewest_cubes": ["needed", "most", "faces", "turns"],
+    },
+    "mending": {
+        "gains": ["group", "needed"], "best_face": ["group", "needed"], "needless": ["group", "needed"],
+        "lean": ["group", "needed"],
+    },
 }
 
 

@@ -2,9 +2,9 @@ import copy
 import itertools
 import unittest
 
-from any_values import ANY, nested
-from daycubes.errors import BadCubes, BadTurns, CubeError
+from daycubes.errors import BadCubes, BadTurns
 from daycubes.sets import Set
+from helper import ANY, NO_TURNS, nested, told
 
 FIGURES = tuple(range(10))
 
@@ -25,26 +25,6 @@ TURNS = [
     (), ((6, 9),), ((0, 1),), ((0, 9),), ((8, 9),), ((0, 1), (2, 3)), ((0, 9), (1, 8)), ((0, 5), (1, 6), (2, 7)),
     ((0, 1), (2, 3), (4, 5), (6, 7), (8, 9)), ((0, 9), (1, 8), (2, 7), (3, 6), (4, 5)), ((0, 3), (1, 2)),
 ]
-
-NO_TURNS = [
-    ((9, 6),), ((6, 6),), ((0, 0),), ((6,),), ((6, 9, 9),), ((1, 2, 3),), ((),), (6, 9), ((6, 9), ()), (6,),
-    ((-1, 9),), ((6, 10),), ((10, 11),), ((-2, -1),), ((0, 10 ** 5000),),
-    ((6, 9), (6, 9)), ((6, 9), (6, 8)), ((5, 9), (6, 9)), ((1, 2), (2, 3)), ((1, 3), (2, 3)), ((1, 2), (1, 3)),
-    ((1, 4), (2, 3), (3, 5)), ((2, 3), (0, 1)), ((0, 1), (4, 5), (2, 3)), ((6, 9), (0, 1)),
-    ((0, 1), (2, 3), (4, 5), (6, 7), (8, 9), (8, 9)), ((0, 1), (2, 3), (4, 5), (6, 7), (8, 9), (1, 2)),
-    ((0, 1), (2, 3), (4, 5), (6, 7), (8, 9), (0, 1), (2, 3)),
-    ((False, True),), ((False, 1),), ((0, True),), ((True, 9),), ((0, 1), (True, 2)), ((6, None),), ((None, None),),
-    (("6", "9"),), ((6, "9"),), ("69",), ("6", "9"), [(6, 9)], ([6, 9],), [[6, 9]], ((6, [9]),), (((6, 9),),),
-    ((0, 1), [2, 3]), {6: 9}, ({6: 9},), {}, [], None, True, False, 0, 69, "", "69", nested(tuple), nested(list),
-]
-
-
-def told(call, *arguments):
-    """What a call raises, as a tuple of its class and its fields; its value if it raises nothing."""
-    try:
-        return call(*arguments)
-    except CubeError as error:
-        return (error.__class__, vars(error))
 
 
 class GoodSets(unittest.TestCase):

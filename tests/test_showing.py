@@ -2,10 +2,10 @@ import copy
 import itertools
 import unittest
 
-from any_values import ANY
 from daycubes.errors import BadFigures
 from daycubes.sets import Set
 from daycubes.showing import how, lacking, shows, ways
+from helper import WRONG_NUMBERS, plain_has, plain_ways
 
 FIGURES = tuple(range(10))
 
@@ -40,28 +40,7 @@ NUMBERS = [
     "".join(signs) for many in (1, 2) for signs in itertools.product("0123456789", repeat=many)
 ] + [str(number).zfill(3) for number in range(0, 1000, 7)] + LONG_NUMBERS
 
-WRONG_NUMBERS = [value for value in ANY] + [
-    "0123456", "0000000", "1234567", " 1", "1 ", "1 2", "+1", "-1", "1.0", "1_0", "0x1", "1\n", "\n1", "1a", "a1",
-    "\u0661", "1\u0661", "\u00b2", "1\u00b2", "\uff11", "\uff10\uff11", "\u0967", "\U0001d7ce", "\u2460",
-    "\u4e00", "\u00bd",
-    "/", ":", "1/", ":1", 1, 12, -1, 0, True, False, None, ("1",), ["1"], ("1", "2"), [1], (1,), {"1": "1"},
-    "1" * 7, "1" * 1000,
-]
-
 CALLS = [shows, how, ways, lacking]
-
-
-def has(group, cube, figure):
-    """Whether a cube, told by its index, has a figure, as the document says it."""
-    faces = group.cubes[cube]
-    turned = [a for a, b in group.turns if b == figure] + [b for a, b in group.turns if a == figure]
-    return figure in faces or any(face in faces for face in turned)
-
-
-def plain_ways(group, number):
-    """All ways, ascending, by a search over all tuples of unlike cubes."""
-    tuples = itertools.permutations(range(len(group.cubes)), len(number))
-    return [way for way in tuples if all(has(group, cube, int(sign)) for cube, sign in zip(way, number))]
 
 
 def plain_lacking(group, number):
@@ -70,27 +49,16 @@ def plain_lacking(group, number):
     for chosen in itertools.product((False, True), repeat=len(number)):
         places = tuple(place for place, taken in enumerate(chosen) if taken)
         cubes = tuple(cube for cube in range(len(group.cubes))
-                      if any(has(group, cube, int(number[place])) for place in places))
+                      if any(plain_has(group.cubes, group.turns, cube, number[place]) for place in places))
         if len(cubes) < len(places):
             found.append((len(places), places, cubes))
     return min(found)[1:] if found else None
 
 
-class Example(unittest.TestCase):
-    def test_the_first_example_of_the_document(self):
-        days = DAYS
-        found = [shows(days, "31"), shows(days, "33"), how(days, "12"), how(days, "69"), how(days, "9")]
-        found = found + [ways(days, "12"), lacking(days, "33"), lacking(days, "69"), lacking(days, "012")]
-        found = found + [lacking(days, "09")]
-        self.assertEqual(found, [
-            True, False, (0, 1), None, (1,), 2, ((0, 1), (0,)), ((0, 1), (1,)), ((0, 1, 2), (0, 1)), None,
-        ])
-
-
 class AgainstPlainSearch(unittest.TestCase):
     def test_ways_how_and_shows(self):
         for group, number in itertools.product(SETS, NUMBERS):
-            found = plain_ways(group, number)
+            found = plain_ways(group.cubes, group.turns, number)
             self.assertEqual(ways(group, number), len(found))
             self.assertEqual(how(group, number), found[0] if found else None)
             self.assertIs(shows(group, number), bool(found))
@@ -110,7 +78,7 @@ class AgainstPlainSearch(unittest.TestCase):
             for chosen in itertools.product(cubes, repeat=many):
                 group = Set(chosen, turns)
                 for number in numbers:
-                    self.assertEqual(ways(group, number), len(plain_ways(group, number)))
+                    self.assertEqual(ways(group, number), len(plain_ways(group.cubes, group.turns, number)))
                     self.assertEqual(lacking(group, number), plain_lacking(group, number))
 
 
