@@ -1,17 +1,11 @@
 """How many numbers a set shows, which ones these are, and the first one that it does not show."""
 
-from daycubes.errors import BadRange, BadWidth
-from daycubes.sets import SIGNS, is_within
+from daycubes.errors import BadRange
+from daycubes.sets import SIGNS, check_width, is_within
 from daycubes.showing import shows
 
 MOST_WIDTH = 4
 GREATEST = 9999
-
-
-def check_width(value):
-    """Raise BadWidth unless any value is a width."""
-    if not is_within(value, 1, MOST_WIDTH):
-        raise BadWidth()
 
 
 def check_range(low, high):
@@ -48,7 +42,7 @@ def shown_or_not(group, numbers):
 
 def all_shown(group, width):
     """The ascending list of all numbers of so many signs that a set shows."""
-    check_width(width)
+    check_width(width, MOST_WIDTH)
     numbers = all_numbers(width)
     return [number for number, shown in zip(numbers, shown_or_not(group, numbers)) if shown]
 
@@ -61,7 +55,7 @@ def count_shown(group, width):
 def first_missing(group, low, high, width):
     """The least integer from low to high that, written in a width, is not shown; None if there is none."""
     check_range(low, high)
-    check_width(width)
+    check_width(width, MOST_WIDTH)
     shown = shown_or_not(group, written_range(low, high, width))
     return low + shown.index(False) if False in shown else None
 
@@ -69,5 +63,5 @@ def first_missing(group, low, high, width):
 def shown_numbers(group, low, high, width):
     """How many integers from low to high are shown, written in a width."""
     check_range(low, high)
-    check_width(width)
+    check_width(width, MOST_WIDTH)
     return shown_or_not(group, written_range(low, high, width)).count(True)

@@ -1,6 +1,6 @@
 """What one face more brings, and which faces nobody needs."""
 
-from daycubes.sets import Set, check_needed, has, least_face
+from daycubes.sets import Set, all_faces, check_needed, cubes_with, least_face
 from daycubes.showing import shown_among
 
 
@@ -21,12 +21,8 @@ def without_face(cubes, index, figure):
 
 def lacked_figures(cube, turns):
     """The ascending list of the figures that a cube has not, of two that can stand for one another the less."""
-    return [figure for figure in range(10) if least_face(figure, turns) == figure and not has(cube, figure, turns)]
-
-
-def all_faces(cubes):
-    """The ascending list of all faces (cube, figure) of these cubes."""
-    return [(index, figure) for index, cube in enumerate(cubes) for figure in cube]
+    least = [figure for figure in range(10) if least_face(figure, turns) == figure]
+    return [figure for figure in least if cubes_with((cube,), figure, turns) == ()]
 
 
 def gains(group, needed):

@@ -1,6 +1,6 @@
 """Sets of cubes, what they are made of, and the numbers that they may show."""
 
-from daycubes.errors import BadCubes, BadFigures, BadNeeded, BadTurns
+from daycubes.errors import BadCubes, BadFigures, BadNeeded, BadTurns, BadWidth
 
 MOST_CUBES = 6
 MOST_SIGNS = 6
@@ -8,10 +8,15 @@ MOST_NEEDED = 60
 SIGNS = "0123456789"
 
 
+def is_integer(value):
+    """Tell of any value whether it is an integer."""
+    # Python takes True and False for integers, the document does not.
+    return isinstance(value, int) and not isinstance(value, bool)
+
+
 def is_within(value, low, high):
     """Tell of any value whether it is an integer from low to high."""
-    # Python takes True and False for integers, the document does not.
-    return isinstance(value, int) and not isinstance(value, bool) and low <= value <= high
+    return is_integer(value) and low <= value <= high
 
 
 def is_figure(value):
@@ -71,6 +76,12 @@ def check_number(value):
         raise BadFigures()
 
 
+def check_width(value, most):
+    """Raise BadWidth unless any value is an integer from 1 to the most signs that are asked for there."""
+    if not is_within(value, 1, most):
+        raise BadWidth()
+
+
 def check_needed(value):
     """Raise BadNeeded unless any value is a tuple of 1 to 60 numbers."""
     if not isinstance(value, tuple) or not 1 <= len(value) <= MOST_NEEDED:
@@ -93,14 +104,20 @@ def least_face(figure, turns):
     return faces_for(figure, turns)[0]
 
 
-def has(cube, figure, turns):
-    """Tell whether a cube has a figure, on a face as it is or turned."""
-    return any([face in cube for face in faces_for(figure, turns)])
-
-
 def cubes_with(cubes, figure, turns):
     """The ascending tuple of those of these cubes, told by their indexes, that have a figure."""
-    return tuple([index for index, cube in enumerate(cubes) if has(cube, figure, turns)])
+    faces = faces_for(figure, turns)
+    return tuple([index for index, cube in enumerate(cubes) if faces[0] in cube or faces[-1] in cube])
+
+
+def cubes_by_figure(cubes, turns):
+    """For each figure from 0 to 9 the ascending tuple of those of these cubes that have it."""
+    return [cubes_with(cubes, figure, turns) for figure in range(10)]
+
+
+def all_faces(cubes):
+    """The ascending list of all faces (cube, figure) of these cubes."""
+    return [(index, figure) for index, cube in enumerate(cubes) for figure in cube]
 
 
 class Set:

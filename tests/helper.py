@@ -3,6 +3,7 @@
 import itertools
 
 from daycubes.errors import CubeError
+from daycubes.sets import Set
 
 
 def nested(kind):
@@ -51,6 +52,31 @@ NO_TURNS = [
 ]
 
 
+FIGURES = tuple(range(10))
+
+DAYS = Set(((0, 1, 2, 3, 4, 5), (0, 1, 2, 6, 7, 8)), ((6, 9),))
+
+# Sets of one to six cubes, with turns and without.
+GROUPS = [
+    DAYS,
+    Set(((0,),)),
+    Set((FIGURES,)),
+    Set(((1, 2),), ((1, 2),)),
+    Set(((6,),), ((6, 9),)),
+    Set(((1,), (2, 3))),
+    Set(((1, 2), (1, 2))),
+    Set(((1, 6), (2, 3)), ((6, 9),)),
+    Set(((1, 6), (1, 6), (2, 9)), ((6, 9),)),
+    Set(((0, 1), (1, 2), (0, 2))),
+    Set(((3,), (0,), (4, 5)), ((0, 5), (1, 6), (2, 7))),
+    Set(((0, 1), (1, 2), (2, 3), (0, 3))),
+    Set(((4, 5), (4, 5), (4, 5), (0, 1, 2, 3)), ((0, 9), (1, 8), (2, 7), (3, 6))),
+    Set(((0,), (0, 1), (0, 1, 2), (0, 1, 2, 3), (0, 1, 2, 3, 4))),
+    Set(((5, 6, 7, 8, 9), (0, 1, 2, 3, 4), (2, 5), (2, 5), (2, 5), (2, 5)), ((1, 5),)),
+    Set(((0, 1, 2), (0, 1, 2), (0, 1, 2), (7, 8), (7, 8), (9,)), ((6, 9),)),
+]
+
+
 def told(call, *arguments):
     """What a call raises, as a tuple of its class and its fields; its value if it raises nothing."""
     try:
@@ -70,6 +96,37 @@ def plain_ways(cubes, turns, number):
     """All ways, ascending, by a search over all tuples of unlike cubes."""
     rows = itertools.permutations(range(len(cubes)), len(number))
     return [row for row in rows if all(plain_has(cubes, turns, cube, sign) for cube, sign in zip(row, number))]
+
+
+def plain_match(cubes, turns, number):
+    """Whether these cubes show a number, by giving each place a cube and moving those that stand in the way."""
+    stands = {}
+
+    def find(place, tried):
+        for cube in range(len(cubes)):
+            if cube not in tried and plain_has(cubes, turns, cube, number[place]):
+                tried.add(cube)
+                if cube not in stands or find(stands[cube], tried):
+                    stands[cube] = place
+                    return True
+        return False
+
+    return all(find(place, set()) for place in range(len(number)))
+
+
+def shown_signs(group, width):
+    """All rows of so many signs, each ascending, whose orders a set shows."""
+    rows = itertools.combinations_with_replacement("0123456789", width)
+    return [row for row in rows if plain_match(group.cubes, group.turns, row)]
+
+
+def plain_touched(number, way, ahead, stood):
+    """How many cubes are touched, place by place as the document says it."""
+    many = 0
+    for place, cube in enumerate(way):
+        if place >= len(stood) or stood[place] != cube or ahead[place] != number[place]:
+            many += 1
+    return many
 
 
 def plain_shown(cubes, turns, needed):

@@ -4,13 +4,15 @@ import unittest
 
 from daycubes.choosing import count_sets, fewest_cubes, fewest_faces, first_unshown, list_sets
 from daycubes.errors import BadNeeded
+from daycubes.losses import fewest_lost, most_spare
 from daycubes.mending import best_face, gains, lean, needless
+from daycubes.plans import cheapest, plan_paper
 from daycubes.sets import Set
 from helper import ANY, NO_NUMBERS, WRONG_NUMBERS, told
 
 GROUP = Set(((0, 1, 6), (1, 2)), ((6, 9),))
 
-BY_GROUP = [first_unshown, gains, best_face, needless, lean]
+BY_GROUP = [first_unshown, gains, best_face, needless, lean, fewest_lost, most_spare, cheapest, plan_paper]
 
 BY_CUBES = [count_sets, list_sets, fewest_faces, fewest_cubes]
 

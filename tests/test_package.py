@@ -35,7 +35,30 @@ INTERFACE = {
         "gains": ["group", "needed"], "best_face": ["group", "needed"], "needless": ["group", "needed"],
         "lean": ["group", "needed"],
     },
+    "told": {"fitting": ["cubes", "figures", "turns", "seen"]},
+    "holders": {"Holder": ["group"]},
+    "papers": {"paper": ["group", "number"], "right_paper": ["group", "number", "value"]},
+    "great": {
+        "great_count": ["group", "width"], "kth_shown": ["group", "width", "k"], "rank_shown": ["group", "number"],
+    },
+    "losses": {
+        "first_apart": ["one", "other"], "first_beyond": ["one", "other"], "fewest_lost": ["group", "needed"],
+        "most_spare": ["group", "needed"],
+    },
+    "plans": {
+        "cheapest": ["group", "numbers"], "plan_paper": ["group", "numbers"],
+        "effort_of": ["group", "numbers", "ways"], "shown_least": ["group", "numbers", "value"],
+    },
+    "texts": {"write": ["group"], "read": ["text"]},
 }
+
+# The arguments of the methods that the interface lists, beside the object itself.
+METHODS = {
+    ("sets", "Set"): {"__len__": [], "__eq__": ["other"]},
+    ("holders", "Holder"): {"__len__": [], "show": ["number"], "undo": [], "redo": []},
+}
+
+PROPERTIES = {("sets", "Set"): ["cubes", "turns"], ("holders", "Holder"): ["group", "figures", "way", "effort"]}
 
 
 def files():
@@ -61,6 +84,14 @@ class Interface(unittest.TestCase):
             for word, arguments in listed.items():
                 if arguments is not None:
                     self.assertEqual(list(inspect.signature(getattr(module, word)).parameters), arguments, word)
+
+    def test_each_method_and_property_stands_in_its_class(self):
+        for (name, word), listed in METHODS.items():
+            inside = vars(getattr(importlib.import_module("daycubes." + name), word))
+            for method, arguments in listed.items():
+                self.assertEqual(list(inspect.signature(inside[method]).parameters)[1:], arguments, method)
+            for told in PROPERTIES[(name, word)]:
+                self.assertIsInstance(inside[told], property, told)
 
 
 class NothingFromOutside(unittest.TestCase):

@@ -5,28 +5,11 @@ import unittest
 from daycubes.errors import BadFigures
 from daycubes.sets import Set
 from daycubes.showing import how, lacking, shows, ways
-from helper import WRONG_NUMBERS, plain_has, plain_ways
+from helper import DAYS, FIGURES, GROUPS, WRONG_NUMBERS, plain_has, plain_ways
 
-FIGURES = tuple(range(10))
-
-DAYS = Set(((0, 1, 2, 3, 4, 5), (0, 1, 2, 6, 7, 8)), ((6, 9),))
-
-SETS = [
-    DAYS,
-    Set(((0,),)),
-    Set((FIGURES,)),
-    Set(((1, 2),), ((1, 2),)),
-    Set(((6,),), ((6, 9),)),
+SETS = GROUPS + [
     Set(((9,),), ((6, 9),)),
-    Set(((1,), (2, 3))),
     Set(((1,), (2, 3)), ((0, 1), (2, 3), (4, 5), (6, 7), (8, 9))),
-    Set(((1, 6), (1, 6), (2, 9)), ((6, 9),)),
-    Set(((3,), (0,), (4, 5)), ((0, 5), (1, 6), (2, 7))),
-    Set(((0, 1), (1, 2), (2, 3), (0, 3))),
-    Set(((4, 5), (4, 5), (4, 5), (0, 1, 2, 3)), ((0, 9), (1, 8), (2, 7), (3, 6))),
-    Set(((0,), (0, 1), (0, 1, 2), (0, 1, 2, 3), (0, 1, 2, 3, 4))),
-    Set(((5, 6, 7, 8, 9), (0, 1, 2, 3, 4), (2, 5), (2, 5), (2, 5), (2, 5)), ((1, 5),)),
-    Set(((0, 1, 2), (0, 1, 2), (0, 1, 2), (7, 8), (7, 8), (9,)), ((6, 9),)),
     Set((FIGURES,) * 6),
 ]
 
