@@ -1,5 +1,6 @@
 import copy
 import itertools
+import sys
 import unittest
 
 from daycubes.choosing import count_sets, fewest_cubes, fewest_faces, first_unshown, list_sets
@@ -35,6 +36,31 @@ TEN = tuple("0123456789")
 JUST_100 = ("0", "1", "15", "16", "18", "2", "3", "4", "5", "6", "7", "8")
 
 JUST_101 = ("0", "03", "05", "1", "12", "13", "2", "26", "3", "36", "4", "5", "56", "6")
+
+
+# Arguments that many tuples of cubes have to be judged for, with the count of those that show all that is needed, and
+# with a count of Python's calls that is far below one for each tuple of cubes and each number.
+LONG_ONES = [
+    ((("0", "1", "2", "3"), 3, 4, ()), 400, 20000),
+    ((("012345", "6789"), 2, 10, ()), 0, 10000),
+    ((TEN, 2, 10, ()), 29524, 50000),
+]
+
+
+def calls_within(call, *arguments):
+    """How many calls of Python's a call makes, its own ones and those of builtin functions."""
+    many = 0
+
+    def count(_frame, event, _about):
+        nonlocal many
+        many += event in ("call", "c_call")
+
+    sys.setprofile(count)
+    try:
+        told(call, *arguments)
+    finally:
+        sys.setprofile(None)
+    return many
 
 
 def plain_sets(needed, cubes, faces, turns):
@@ -184,6 +210,19 @@ class Edges(unittest.TestCase):
         self.assertEqual([part.__class__ for part in fewest_faces(*asked)], [int, int])
         for cubes in list_sets(*asked):
             Set(cubes)
+
+
+class LongOnes(unittest.TestCase):
+    def test_their_answers(self):
+        self.assertEqual([count_sets(*asked) for asked, _, _ in LONG_ONES], [many for _, many, _ in LONG_ONES])
+        self.assertEqual([told(list_sets, *asked) for asked, _, _ in LONG_ONES], [(TooMany, {}), [], (TooMany, {})])
+        self.assertEqual([fewest_faces(*asked) for asked, _, _ in LONG_ONES], [(4, 6), None, (10, 511)])
+        self.assertEqual([fewest_cubes(*asked) for asked, _, _ in LONG_ONES], [1, None, 1])
+        self.assertEqual(fewest_faces(*LONG_ONES[0][0]), plain_fewest_faces(plain_sets(*LONG_ONES[0][0])))
+
+    def test_they_are_not_gone_through_one_by_one(self):
+        for call, (asked, _, most) in itertools.product(CALLS, LONG_ONES):
+            self.assertLess(calls_within(call, *asked), most, asked)
 
 
 class WrongArguments(unittest.TestCase):
